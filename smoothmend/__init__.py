@@ -1,0 +1,1 @@
+"""Parts of a picture mended smoothly and exactly."""
