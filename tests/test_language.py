@@ -89,6 +89,21 @@ class Code(unittest.TestCase):
             if isinstance(node, (ast.FunctionDef, ast.ClassDef)):
                 self.assertEqual(node.decorator_list, [], where)
 
+    def test_walked_on_the_spot(self):
+        walked = set()
+        for path, text in sources():
+            for node in ast.walk(ast.parse(text)):
+                if isinstance(node, (ast.For, ast.comprehension)):
+                    walked.add((path.name, node.iter.lineno, node.iter.col_offset))
+        for name, node in nodes(ast.Call):
+            if isinstance(node.func, ast.Name) and node.func.id in {"zip", "enumerate", "reversed", "range"}:
+                self.assertIn((name, node.lineno, node.col_offset), walked)
+
+    def test_is_beside_none_true_and_false_alone(self):
+        for name, node in nodes(ast.Compare):
+            if isinstance(node.ops[0], (ast.Is, ast.IsNot)):
+                self.assertIsInstance(node.comparators[0], ast.Constant, (name, node.lineno))
+
     def test_names(self):
         bound = [node.id for name, node in nodes(ast.Name) if isinstance(node.ctx, ast.Store)]
         bound += [node.arg for name, node in nodes(ast.arg)]

@@ -2,55 +2,10 @@
 
 import unittest
 
-from smoothmend.picture import Picture, answers, answer_call, split_calls
-
-MOST = 2 ** 64 - 1
-
-
-def begin(w, h, colours):
-    return [1, w, h, len(colours)] + colours
-
-
-def blank(w, h):
-    return begin(w, h, [0] * (w * h))
-
-
-def other(colours):
-    return [2, len(colours)] + colours
-
-
-FLAT = [3]
-NONE = [6]
-
-
-def part(x, y, w, h):
-    return [4, x, y, w, h]
-
-
-def add(x, y):
-    return [5, x, y]
-
-
-def single_answers(*calls):
-    """Every call of this file answers one number: these, one for each call."""
-    told = answers([number for call in calls for number in call])
-    assert told[0::2] == [1] * len(calls), told
-    return told[1::2]
-
-
-def picture_after(*calls):
-    picture = Picture()
-    for number, numbers, row in split_calls([number for call in calls for number in call]):
-        answer_call(picture, number, numbers, row)
-    return picture
-
-
-def state(picture):
-    return (picture.wide, picture.high, list(picture.colours), list(picture.other), sorted(picture.part))
-
-
-def state_after(*calls):
-    return state(picture_after(*calls))
+from calls import (
+    FLAT, MOST, NONE, add, begin, blank, other, part, picture_after, single_answers, state, state_after,
+)
+from smoothmend.picture import Picture, answers
 
 
 class FormOfAnswers(unittest.TestCase):
